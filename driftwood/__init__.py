@@ -1,0 +1,1 @@
+"""Driftwood: moving boxes in a tree of pages, each answer with a paper."""

@@ -1,0 +1,54 @@
+"""What the tests share: a check of kinds, small boxes and sides gone through one by one, a fixed row of numbers."""
+
+from itertools import product
+
+
+def told_plainly(value):
+    """Whether it is a number, a text, True, False, None, or tuples of such all the way down."""
+    if type(value) is tuple:
+        return all(told_plainly(part) for part in value)
+    return value is None or type(value) in (int, str, bool)
+
+
+def small_sides(least, most):
+    """All sides (low, high) with ends from least to most, none of them turned."""
+    return [(low, high) for low in range(least, most + 1) for high in range(low, most + 1)]
+
+
+def points_of(box):
+    """All whole points of a box, by going through its sides."""
+    return set(product(*[range(low, high + 1) for low, high in box]))
+
+
+def squared(one, two):
+    return sum((a - b) ** 2 for a, b in zip(one, two))
+
+
+class Row:
+    """A fixed row of numbers that looks mixed: the same in each run, so a fault can be found again."""
+
+    def __init__(self, seed):
+        self.state = seed
+
+    def number(self, least, most):
+        self.state = (self.state * 6364136223846793005 + 1442695040888963407) % 2**64
+        return least + (self.state >> 24) % (most - least + 1)
+
+    def point(self, sides, reach):
+        return tuple(self.number(-reach, reach) for _ in range(sides))
+
+    def box(self, sides, reach):
+        corners = zip(self.point(sides, reach), self.point(sides, reach))
+        return tuple((min(pair), max(pair)) for pair in corners)
+
+    def frame(self, sides, reach, speed):
+        """Its ends may be turned, its speeds too."""
+        return tuple(
+            (self.number(-reach, reach), self.number(-reach, reach),
+             self.number(-speed, speed), self.number(-speed, speed))
+            for _ in range(sides))
+
+    def swath(self, sides, reach, speed):
+        return tuple(
+            (min(low, high), max(low, high), min(slow, fast), max(slow, fast))
+            for low, high, slow, fast in self.frame(sides, reach, speed))
