@@ -2,6 +2,12 @@
 
 from itertools import product
 
+from driftwood import errors
+
+REFUSALS = ("NoThing", "NoWant", "NoPath", "NoHandle", "NoRoom", "Twice", "NoView", "NoWatch", "NoText")
+# What is handed in where a number is due: none of these is one.
+NO_NUMBERS = (None, True, False, "1", "", 1.0, float("nan"), float("inf"), 1j, b"1", (), (1,), [1], {1: 1}, {1}, object(), len)
+
 
 def told_plainly(value):
     """Whether it is a number, a text, True, False, None, or tuples of such all the way down."""
@@ -24,6 +30,15 @@ def squared(one, two):
     return sum((a - b) ** 2 for a, b in zip(one, two))
 
 
+def refusals_of(ask, *given, **named):
+    """The names of all refusals that take what comes of asking; () where it is answered."""
+    try:
+        ask(*given, **named)
+    except errors.DriftError as error:
+        return tuple(name for name in REFUSALS if isinstance(error, getattr(errors, name)))
+    return ()
+
+
 class Row:
     """A fixed row of numbers that looks mixed: the same in each run, so a fault can be found again."""
 
@@ -33,6 +48,13 @@ class Row:
     def number(self, least, most):
         self.state = (self.state * 6364136223846793005 + 1442695040888963407) % 2**64
         return least + (self.state >> 24) % (most - least + 1)
+
+    def wide(self, bits):
+        """A number of up to so many bits, however many."""
+        number = 0
+        for _ in range(0, bits, 16):
+            number = number << 16 | self.number(0, 2**16 - 1)
+        return number % 2**bits
 
     def point(self, sides, reach):
         return tuple(self.number(-reach, reach) for _ in range(sides))

@@ -1,6 +1,6 @@
 """The form of the package: those of the rules L1 to L28 that can be read off the files.
 
-A rule that is not checked here (L11, L13, L18, L19, L22 to L24, L26 and parts of others) holds all the same.
+A rule that is not checked here (L11, L13, L19, L22, L26 and parts of others) holds all the same.
 """
 
 import ast
@@ -33,6 +33,8 @@ NODES = set("""
     Attribute Subscript Slice ListComp comprehension JoinedStr FormattedValue Lambda keyword Load Store
     Add Sub Mult FloorDiv Mod Pow BitAnd BitOr BitXor LShift RShift Invert Not USub UAdd And Or
     Eq NotEq Lt LtE Gt GtE Is IsNot In NotIn""".split())
+WALKED = ("zip", "enumerate", "reversed", "range", "items", "keys", "values")
+WALKERS = ("list", "tuple", "dict", "sorted", "sum", "any", "all", "enumerate", "zip", "min", "max", "join")
 TOP_NODES = (ast.ImportFrom, ast.FunctionDef, ast.ClassDef, ast.Assign)
 
 
@@ -140,11 +142,42 @@ def step_faults(node, line):
             yield "L2", line
 
 
+def called_name(node):
+    if not isinstance(node, ast.Call):
+        return None
+    return getattr(node.func, "id", None) or getattr(node.func, "attr", None)
+
+
+def walk_faults(tree):
+    """What must be walked on the spot, and sets, which the package does without."""
+    walked = {id(node.iter) for node in ast.walk(tree) if isinstance(node, (ast.For, ast.comprehension))}
+    for node in ast.walk(tree):
+        if called_name(node) in WALKERS:
+            walked |= {id(given) for given in node.args}
+    for node in ast.walk(tree):
+        if called_name(node) in WALKED and id(node) not in walked:
+            yield "L23", node.lineno
+        if isinstance(node, ast.Set) or called_name(node) in ("set", "frozenset"):
+            yield "L24", node.lineno
+
+
+def local_faults(tree):
+    """Parameters and locals called like an import or a class of the file."""
+    taken = {node.name for node in tree.body if isinstance(node, ast.ClassDef)}
+    taken |= {part.name for node in tree.body if isinstance(node, ast.ImportFrom) for part in node.names}
+    for node in ast.walk(tree):
+        stored = isinstance(node, ast.Name) and isinstance(node.ctx, ast.Store) and node.id in taken
+        if stored or isinstance(node, ast.arg) and node.arg in taken:
+            yield "L15", node.lineno
+
+
 def faults_of(source, own_methods=()):
     """The rules that a file's text breaks, as a list of pairs (rule, line)."""
     found = list(text_faults(source))
     tree = ast.parse(source)
     found += top_faults(tree)
+    found += walk_faults(tree)
+    found += local_faults(tree)
     for node in ast.walk(tree):
         line = getattr(node, "lineno", 0)
         if node.__class__.__name__ not in NODES:
@@ -170,6 +203,12 @@ def own_methods_of(sources):
     trees = [ast.parse(source) for source in sources.values()]
     classes = [node for tree in trees for node in tree.body if isinstance(node, ast.ClassDef)]
     return {part.name for node in classes for part in node.body if isinstance(part, ast.FunctionDef)}
+
+
+def own_values_of(sources):
+    """The names of all values that objects of the package are given."""
+    nodes = [node for source in sources.values() for node in ast.walk(ast.parse(source))]
+    return {node.attr for node in nodes if isinstance(node, ast.Attribute) and isinstance(node.ctx, ast.Store)}
 
 
 def draws_of(source):
@@ -207,6 +246,10 @@ class Form(unittest.TestCase):
             self.assertNotEqual(free, [], left)
             left = {name: origins for name, origins in left.items() if name not in free}
 
+    def test_no_name_is_a_method_and_a_value(self):
+        sources = package_sources()
+        self.assertEqual(own_methods_of(sources) & own_values_of(sources), set())
+
     def test_the_init_file_binds_no_name_of_a_file(self):
         bound = {getattr(node, "name", None) for node in ast.parse(package_sources()["__init__"]).body}
         self.assertEqual(bound & set(package_sources()), set())
@@ -228,6 +271,9 @@ class TheCheckItself(unittest.TestCase):
             ("L10", "def f():\n" + "    x = 1\n" * 40), ("L12", "def f(low_, _):\n    return low_\n"),
             ("L14", "# \u00e9\n"), ("L14", "x = 1\t\n"), ("L15", "x = 1\nx = 2\n"), ("L15", "def f(min):\n    return min\n"),
             ("L15", "def f():\n    sum = 3\n"), ("L17", "# of one type\n"), ("L17", "def f(x):\n    return x.elements\n"),
+            ("L15", "from driftwood.boxes import box_of\n\n\ndef f(box_of):\n    return 1\n"),
+            ("L15", "class A:\n    pass\n\n\ndef f():\n    A = 3\n"), ("L23", "def f(xs):\n    ys = zip(xs, xs)\n"),
+            ("L24", "def f(xs):\n    return set(xs)\n"), ("L24", "x = {1, 2}\n"),
             ("L20", "def f(a, b):\n    return a is b\n"), ("L21", "def f(a: int):\n    return a\n"),
             ("L25", "def f(xs):\n    xs.sort()\n"), ("L27", "def f(n):\n    return 2 ** n\n"), ("L27", "x = '%'\n"))
         for rule, source in bad:

@@ -1,0 +1,10 @@
+"""The greatest numbers that a thing, a want or a line may name; places, speeds and worths go as far below nought."""
+
+PLACE_BOUND = 1_000_000_000_000_000_000_000_000_000_000
+SPEED_BOUND = 1_000_000_000_000_000
+BEAT_BOUND = 1_000_000_000_000_000
+HANDLE_BOUND = 1_000_000_000_000_000_000
+MARKS_BOUND = 65535
+WORTH_BOUND = 1_000_000_000_000_000_000_000_000_000_000
+# A squared distance: far enough for any two places, so it has twice the figures and some more.
+FAR_BOUND = 100_000_000_000_000_000_000_000_000_000_000_000_000_000_000_000_000_000_000_000_000
