@@ -26,11 +26,11 @@ def heart_at(told, beat):
 
 
 def has_each(marks, asked):
-    return marks & asked == asked
+    return (marks & asked) == asked
 
 
 def has_one(marks, asked):
-    return marks & asked != 0
+    return (marks & asked) != 0
 
 
 def crosses_box(frame, box, first, last):

@@ -48,7 +48,7 @@ def next_in(number, box, bits):
         lower = (cell[side][0], middle)
         upper = (middle + 1, cell[side][1])
         stays = upper
-        if (number >> place) & 1 == 0:
+        if ((number >> place) & 1) == 0:
             stays = lower
             if sides_meet(upper, box[side]):
                 leaving = list(cell)

@@ -3,6 +3,7 @@
 from itertools import product
 
 from driftwood import errors
+from driftwood.things import make_thing, thing_told, tolds_poured
 
 REFUSALS = ("NoThing", "NoWant", "NoPath", "NoHandle", "NoRoom", "Twice", "NoView", "NoWatch", "NoText")
 # What is handed in where a number is due: none of these is one.
@@ -39,6 +40,42 @@ def refusals_of(ask, *given, **named):
     return ()
 
 
+def height_of(page):
+    return 0 if page[0] == "leaf" else 1 + height_of(page[2][0])
+
+
+def pages_beneath(page, path=()):
+    """All pairs (path, page) from a page on, each page ahead of its own pages."""
+    yield path, page
+    if page[0] == "fork":
+        for position, part in enumerate(page[2]):
+            yield from pages_beneath(part, path + (position,))
+
+
+def things_beneath(page):
+    return [thing for path, part in pages_beneath(page) if part[0] == "leaf" for thing in part[2]]
+
+
+def ills_by_the_words(top, room):
+    """[5.4] once more, each of (a) to (d) by itself: a dict from each ill page's path to the letters that hold."""
+    ills = {}
+    for path, page in pages_beneath(top):
+        kind, told, parts = page
+        tolds = tuple(thing_told(part) if kind == "leaf" else part[1] for part in parts)
+        letters = ""
+        if told != tolds_poured(tolds):
+            letters += "a"
+        if len(parts) > room:
+            letters += "b"
+        if path != () and len(parts) < room // 2 or path == () and kind == "fork" and len(parts) < 2:
+            letters += "c"
+        if kind == "fork" and len({height_of(part) for part in parts}) > 1:
+            letters += "d"
+        if letters:
+            ills[path] = letters
+    return ills
+
+
 class Row:
     """A fixed row of numbers that looks mixed: the same in each run, so a fault can be found again."""
 
@@ -62,6 +99,15 @@ class Row:
     def box(self, sides, reach):
         corners = zip(self.point(sides, reach), self.point(sides, reach))
         return tuple((min(pair), max(pair)) for pair in corners)
+
+    def thing(self, handle, sides, reach):
+        """A thing no wider than a tenth of what its lows reach over."""
+        box = tuple((low, low + self.number(0, reach // 5)) for low in self.point(sides, reach))
+        return make_thing(handle, box, self.point(sides, 9), self.number(0, 65535), self.number(-99, 99))
+
+    def mixed(self, values):
+        """The same values in another order."""
+        return tuple(sorted(values, key=lambda value: self.number(0, 2**32)))
 
     def frame(self, sides, reach, speed):
         """Its ends may be turned, its speeds too."""

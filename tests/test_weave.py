@@ -219,7 +219,7 @@ class NextIn(unittest.TestCase):
     def test_boxes_of_any_width(self):
         row = Row(36)
         kinds = {"same": 0, "greater": 0, "none": 0}
-        for count in range(500):
+        for count in range(200):
             sides, bits = 2 + count % 2, row.number(1, 110)
             ends = [(row.wide(row.number(0, bits)), row.wide(bits)) for _ in range(sides)]
             box = tuple((min(pair), max(pair)) for pair in ends)
@@ -230,7 +230,7 @@ class NextIn(unittest.TestCase):
                 due = next_by_prefixes(start, box, bits)
                 self.assertEqual(next_in(start, box, bits), due)
                 kinds["none" if due is None else "same" if due == start else "greater"] += 1
-        self.assertGreater(min(kinds.values()), 100)
+        self.assertGreater(min(kinds.values()), 50)
 
     def test_kinds(self):
         self.assertIs(type(next_in(0, ((1, 2), (1, 2)), 2)), int)
