@@ -81,12 +81,20 @@ def told_every(told):
     return told[3]
 
 
+def told_many(told):
+    return told[4]
+
+
 def told_least(told):
     return told[5]
 
 
 def told_most(told):
     return told[6]
+
+
+def told_worth(told):
+    return told[7]
 
 
 def thing_told(thing):

@@ -3,7 +3,11 @@
 from itertools import product
 
 from driftwood import errors
-from driftwood.things import make_thing, thing_told, tolds_poured
+from driftwood.boxes import box_gap, box_inside, boxes_meet
+from driftwood.pages import make_fork, make_leaf
+from driftwood.things import make_thing, thing_box, thing_told, tolds_poured
+from driftwood.wants import (
+    Anything, Both, Crosses, Either, Holds, Inside, Marked, Meets, Near, Touched, Unless, Worthy)
 
 REFUSALS = ("NoThing", "NoWant", "NoPath", "NoHandle", "NoRoom", "Twice", "NoView", "NoWatch", "NoText")
 # What is handed in where a number is due: none of these is one.
@@ -56,6 +60,46 @@ def things_beneath(page):
     return [thing for path, part in pages_beneath(page) if part[0] == "leaf" for thing in part[2]]
 
 
+def most_anew(old, new):
+    """The most pages of one height of the new tree that are equal to no page of that height of the old one."""
+    before = {}
+    for path, page in pages_beneath(old):
+        before.setdefault(height_of(page), []).append(page)
+    anew = {}
+    for path, page in pages_beneath(new):
+        height = height_of(page)
+        anew[height] = anew.get(height, 0) + (page not in before.get(height, []))
+    return max(anew.values())
+
+
+def paper_by_the_words(top, word_of):
+    """The rows of a cut, page by page of the whole tree: those whose page above is an open row."""
+    words = {}
+    for path, page in pages_beneath(top):
+        if path == () or words.get(path[:-1]) == "open":
+            words[path] = word_of(page[1])
+    return tuple(words.items())
+
+
+def spoilt_papers(paper):
+    """The rows of no cut, each spoilt in one place of a paper."""
+    yield ()
+    for place, (path, *words) in enumerate(paper):
+        ahead, row, behind = paper[:place], paper[place:place + 1], paper[place + 1:]
+        yield ahead + behind
+        yield ahead + row + row + behind
+        if behind:
+            yield ahead + behind[:1] + row + behind[1:]
+        for word in ("", "Open", "open ", "every", "none", "leaf"):
+            yield ahead + ((path, *words[:-1], word),) + behind
+        others = [path + (0,), path + (-1,), path + (99,), (-1,) + path]
+        if path:
+            others += [path[:-1], path[:-1] + (-1,), path[:-1] + (path[-1] + 1,), path[:-1] + (10**20,)]
+        for other in others:
+            yield ahead + ((other, *words),) + behind
+            yield ahead + row + ((other, *words),) + behind
+
+
 def ills_by_the_words(top, room):
     """[5.4] once more, each of (a) to (d) by itself: a dict from each ill page's path to the letters that hold."""
     ills = {}
@@ -76,6 +120,38 @@ def ills_by_the_words(top, room):
     return ills
 
 
+def mixed_want(row, sides, depth):
+    """Small numbers, so that all verdicts come."""
+    kind = row.number(0, 11 if depth else 8)
+    box = row.box(sides, 9)
+    if kind < 9:
+        return (
+            Anything(), Meets(box), Inside(row.box(sides, 25)), Holds(tuple((a, a) for a, b in box)),
+            Near(box, row.number(0, 60)), Marked(row.number(0, 15) & row.number(0, 15)), Touched(row.number(0, 15)),
+            Crosses(box, row.number(0, 4), row.number(0, 9)), Worthy(row.number(-9, 9)))[kind]
+    parts = [mixed_want(row, sides, depth - 1) for _ in range(2)]
+    return (Both(*parts), Either(*parts), Unless(parts[0]))[kind - 9]
+
+
+def suits_by_the_words(want, thing, beat):
+    """[4.3] once more, by the boxes of each beat."""
+    box = thing_box(thing, beat)
+    if isinstance(want, Crosses):
+        return any(boxes_meet(thing_box(thing, t), want.box) for t in range(want.first, want.last + 1))
+    if isinstance(want, (Both, Either)):
+        parts = [suits_by_the_words(part, thing, beat) for part in (want.one, want.two)]
+        return all(parts) if isinstance(want, Both) else any(parts)
+    if isinstance(want, Unless):
+        return not suits_by_the_words(want.one, thing, beat)
+    asks = {
+        Anything: lambda: True, Meets: lambda: boxes_meet(box, want.box), Inside: lambda: box_inside(box, want.box),
+        Holds: lambda: box_inside(want.box, box), Near: lambda: box_gap(box, want.box) <= want.far,
+        Marked: lambda: all(thing[2] >> k & 1 for k in range(16) if want.marks >> k & 1),
+        Touched: lambda: any(thing[2] >> k & 1 for k in range(16) if want.marks >> k & 1),
+        Worthy: lambda: thing[3] >= want.least}
+    return asks[type(want)]()
+
+
 class Row:
     """A fixed row of numbers that looks mixed: the same in each run, so a fault can be found again."""
 
@@ -83,8 +159,11 @@ class Row:
         self.state = seed
 
     def number(self, least, most):
+        span = most - least + 1
+        if span > 2**40:
+            return least + self.wide(span.bit_length() + 16) % span
         self.state = (self.state * 6364136223846793005 + 1442695040888963407) % 2**64
-        return least + (self.state >> 24) % (most - least + 1)
+        return least + (self.state >> 24) % span
 
     def wide(self, bits):
         """A number of up to so many bits, however many."""
@@ -102,8 +181,25 @@ class Row:
 
     def thing(self, handle, sides, reach):
         """A thing no wider than a tenth of what its lows reach over."""
-        box = tuple((low, low + self.number(0, reach // 5)) for low in self.point(sides, reach))
+        box = tuple((low, min(reach, low + self.number(0, reach // 5))) for low in self.point(sides, reach))
         return make_thing(handle, box, self.point(sides, 9), self.number(0, 65535), self.number(-99, 99))
+
+    def small_thing(self, handle, sides):
+        """One of numbers as small as those of the mixed wants."""
+        box = tuple((low, low + self.number(0, 9)) for low in self.point(sides, 9))
+        return make_thing(handle, box, self.point(sides, 2), self.number(0, 15), self.number(-9, 9))
+
+    def small_things(self, many, sides):
+        """Their handles are unlike, but neither one behind another nor rising."""
+        return tuple(self.small_thing(handle * 7 % 1009, sides) for handle in range(1, many + 1))
+
+    def tree(self, things, high):
+        """A tree of any shape: leaves without things, leaves at unlike heights, forks of one page."""
+        if high == 0 or self.number(0, 4) == 0:
+            return make_leaf(things)
+        cuts = sorted(self.number(0, len(things)) for _ in range(self.number(0, 3)))
+        ends = zip([0] + cuts, cuts + [len(things)])
+        return make_fork(tuple(self.tree(things[start:end], high - 1) for start, end in ends))
 
     def mixed(self, values):
         """The same values in another order."""

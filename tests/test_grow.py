@@ -6,17 +6,10 @@ from driftwood.grow import put_thing
 from driftwood.laying import laid_tree
 from driftwood.pages import make_fork, make_leaf, things_in, tree_ills
 from driftwood.things import make_thing
-from tests.helper import Row, height_of, ills_by_the_words, pages_beneath, told_plainly
+from tests.helper import Row, height_of, ills_by_the_words, most_anew, told_plainly
 
 ROOMS = range(4, 17)
 PLACE = 10**30
-
-
-def pages_by_height(top):
-    pages = {}
-    for path, page in pages_beneath(top):
-        pages.setdefault(height_of(page), []).append(page)
-    return pages
 
 
 class Putting(unittest.TestCase):
@@ -25,12 +18,6 @@ class Putting(unittest.TestCase):
         self.assertEqual(tree_ills(new, room), ())
         self.assertEqual(sorted(things_in(new)), sorted(things_in(top) + (thing,)))
         return new
-
-    def little_anew(self, old, new):
-        before = pages_by_height(old)
-        for height, pages in pages_by_height(new).items():
-            known = before.get(height, [])
-            self.assertLessEqual(len([page for page in pages if page not in known]), 2)
 
     def test_an_empty_tree(self):
         for room in ROOMS:
@@ -67,7 +54,7 @@ class Putting(unittest.TestCase):
             new = self.put(top, room, row.thing(10**9, 2, 9999))
             self.assertEqual(height_of(new), high + 1)
             self.assertEqual(len(new[2]), 2)
-            self.little_anew(top, new)
+            self.assertLessEqual(most_anew(top, new), 2)
 
     def test_many_one_after_another(self):
         row = Row(68)
@@ -77,7 +64,7 @@ class Putting(unittest.TestCase):
                 new = self.put(top, room, row.thing(handle, 2 + room % 2, (5, 10**4, PLACE // 2)[room % 3]))
                 if handle % 10 == 0:
                     self.assertEqual(ills_by_the_words(new, room), {})
-                    self.little_anew(top, new)
+                    self.assertLessEqual(most_anew(top, new), 2)
                 top = new
             self.assertGreater(height_of(top), 0)
 
@@ -111,7 +98,7 @@ class Putting(unittest.TestCase):
             top = laid_tree(tuple(row.thing(k, 2, 999) for k in range(200)), room)
             for handle in range(200, 230):
                 new = self.put(top, room, row.thing(handle, 2, 999))
-                self.little_anew(top, new)
+                self.assertLessEqual(most_anew(top, new), 2)
                 top = new
 
     def test_the_old_tree_stays(self):

@@ -5,10 +5,10 @@ from itertools import product
 
 from driftwood.boxes import box_gap, box_inside, boxes_meet
 from driftwood.swaths import frame_at
-from driftwood.things import make_thing, thing_box, thing_told, tolds_poured
+from driftwood.things import make_thing, thing_told, tolds_poured
 from driftwood.wants import (
     Anything, Both, Crosses, Either, Holds, Inside, Marked, Meets, Near, Touched, Unless, Want, Worthy)
-from tests.helper import Row, told_plainly
+from tests.helper import Row, mixed_want, suits_by_the_words, told_plainly
 
 LAST = 10**15
 PLACE = 10**30
@@ -302,19 +302,6 @@ class Verdicts(unittest.TestCase):
             self.judge(Either(want, want), self.MOVING, due, beat)
 
 
-def mixed_want(row, sides, depth):
-    """Small numbers, so that all verdicts come."""
-    kind = row.number(0, 11 if depth else 8)
-    box = row.box(sides, 9)
-    if kind < 9:
-        return (
-            Anything(), Meets(box), Inside(row.box(sides, 25)), Holds(tuple((a, a) for a, b in box)),
-            Near(box, row.number(0, 60)), Marked(row.number(0, 15) & row.number(0, 15)), Touched(row.number(0, 15)),
-            Crosses(box, row.number(0, 4), row.number(0, 9)), Worthy(row.number(-9, 9)))[kind]
-    parts = [mixed_want(row, sides, depth - 1) for _ in range(2)]
-    return (Both(*parts), Either(*parts), Unless(parts[0]))[kind - 9]
-
-
 def mixed_things(row, sides):
     things = []
     marks = row.number(0, 15)
@@ -323,25 +310,6 @@ def mixed_things(row, sides):
         box = tuple((low, low + row.number(0, 9)) for low in lows)
         things.append(make_thing(handle, box, row.point(sides, 2), row.number(0, 15) | marks, row.number(-9, 9)))
     return things
-
-
-def suits_by_the_words(want, thing, beat):
-    """[4.3] once more, by the boxes of each beat."""
-    box = thing_box(thing, beat)
-    if isinstance(want, Crosses):
-        return any(boxes_meet(thing_box(thing, t), want.box) for t in range(want.first, want.last + 1))
-    if isinstance(want, (Both, Either)):
-        parts = [suits_by_the_words(part, thing, beat) for part in (want.one, want.two)]
-        return all(parts) if isinstance(want, Both) else any(parts)
-    if isinstance(want, Unless):
-        return not suits_by_the_words(want.one, thing, beat)
-    asks = {
-        Anything: lambda: True, Meets: lambda: boxes_meet(box, want.box), Inside: lambda: box_inside(box, want.box),
-        Holds: lambda: box_inside(want.box, box), Near: lambda: box_gap(box, want.box) <= want.far,
-        Marked: lambda: all(thing[2] >> k & 1 for k in range(16) if want.marks >> k & 1),
-        Touched: lambda: any(thing[2] >> k & 1 for k in range(16) if want.marks >> k & 1),
-        Worthy: lambda: thing[3] >= want.least}
-    return asks[type(want)]()
 
 
 class NeverLying(unittest.TestCase):
