@@ -81,23 +81,62 @@ def paper_by_the_words(top, word_of):
     return tuple(words.items())
 
 
+def join_by_the_words(one, two, word_of, path=(), other=()):
+    """[9.2]: rows (path, path, word, page, page), those behind an open row at once behind it."""
+    word = word_of(one[1], two[1])
+    yield path, other, word, one, two
+    if word != "open" or (one[0], two[0]) == ("leaf", "leaf"):
+        return
+    if one[0] == "leaf":
+        for k, part in enumerate(two[2]):
+            yield from join_by_the_words(one, part, word_of, path, other + (k,))
+    elif two[0] == "leaf":
+        for k, part in enumerate(one[2]):
+            yield from join_by_the_words(part, two, word_of, path + (k,), other)
+    else:
+        for k, part in enumerate(one[2]):
+            for j, beside in enumerate(two[2]):
+                yield from join_by_the_words(part, beside, word_of, path + (k,), other + (j,))
+
+
+def join_paper(one, two, word_of):
+    return tuple(row[:3] for row in join_by_the_words(one, two, word_of))
+
+
+def pairs_of(one, two):
+    """[9.1]: all pairs of things of unlike handles."""
+    return [(a, b) for a in things_beneath(one) for b in things_beneath(two) if a[0] != b[0]]
+
+
+def other_paths(path):
+    """Numbers below nought, beyond the pages and beneath leaves among them."""
+    others = [path + (0,), path + (-1,), path + (99,), (-1,) + path]
+    if path:
+        others += [path[:-1], path[:-1] + (-1,), path[:-1] + (path[-1] + 1,), path[:-1] + (10**20,)]
+    return others
+
+
 def spoilt_papers(paper):
-    """The rows of no cut, each spoilt in one place of a paper."""
+    """The rows of no cut, each spoilt in one place of a paper; its rows have one path or two."""
     yield ()
-    for place, (path, *words) in enumerate(paper):
+    for place, (*paths, word) in enumerate(paper):
         ahead, row, behind = paper[:place], paper[place:place + 1], paper[place + 1:]
         yield ahead + behind
         yield ahead + row + row + behind
         if behind:
             yield ahead + behind[:1] + row + behind[1:]
-        for word in ("", "Open", "open ", "every", "none", "leaf"):
-            yield ahead + ((path, *words[:-1], word),) + behind
-        others = [path + (0,), path + (-1,), path + (99,), (-1,) + path]
-        if path:
-            others += [path[:-1], path[:-1] + (-1,), path[:-1] + (path[-1] + 1,), path[:-1] + (10**20,)]
-        for other in others:
-            yield ahead + ((other, *words),) + behind
-            yield ahead + row + ((other, *words),) + behind
+        for other in ("", "Open", "open ", "every", "none", "leaf"):
+            yield ahead + ((*paths, other),) + behind
+        for k, path in enumerate(paths):
+            for other in other_paths(path):
+                changed = (*paths[:k], other, *paths[k + 1:], word)
+                yield ahead + (changed,) + behind
+                yield ahead + row + (changed,) + behind
+
+
+def opened_mostly(row, word_of):
+    """The right words, but open in their place now and then."""
+    return lambda *tolds: "open" if row.number(0, 2) else word_of(*tolds)
 
 
 def ills_by_the_words(top, room):
@@ -200,6 +239,20 @@ class Row:
         cuts = sorted(self.number(0, len(things)) for _ in range(self.number(0, 3)))
         ends = zip([0] + cuts, cuts + [len(things)])
         return make_fork(tuple(self.tree(things[start:end], high - 1) for start, end in ends))
+
+    def two_trees(self, most, sides, high):
+        """Of unlike things, of the same ones, with some handles shared, or a tree with itself."""
+        things = self.small_things(2 * most, sides)
+        many, kind = self.number(0, most), self.number(0, 3)
+        first = self.tree(things[:many], self.number(0, high))
+        if kind == 0:
+            return first, first
+        if kind == 1:
+            return first, self.tree(things[:many], self.number(0, high))
+        if kind == 2:
+            return first, self.tree(things[most:most + self.number(0, most)], self.number(0, high))
+        moved = tuple(self.small_thing(thing[0], sides) for thing in things[:self.number(0, most)])
+        return first, self.tree(moved[::-1], self.number(0, high))
 
     def mixed(self, values):
         """The same values in another order."""
