@@ -1,6 +1,6 @@
-"""Numbers and boxes as texts: written, and read back, None where a word writes none."""
+"""Numbers, boxes and speeds as texts: written, and read back, None where a word writes none."""
 
-from driftwood.bounds import PLACE_BOUND
+from driftwood.bounds import PLACE_BOUND, SPEED_BOUND
 
 FIGURES = "0123456789"
 MOST_FIGURES = 63
@@ -8,6 +8,10 @@ MOST_FIGURES = 63
 
 def box_written(box):
     return ",".join([f"{low}..{high}" for low, high in box])
+
+
+def speeds_written(speeds):
+    return ",".join([str(speed) for speed in speeds])
 
 
 # The figures are looked at one by one: Python's own reading also takes blanks, strokes and other alphabets' figures.
@@ -36,6 +40,13 @@ def side_read(word):
 
 def box_read(word, sides):
     read = [side_read(part) for part in word.split(",")]
+    if len(read) != sides or None in read:
+        return None
+    return tuple(read)
+
+
+def speeds_read(word, sides):
+    read = [number_read(part, -SPEED_BOUND, SPEED_BOUND) for part in word.split(",")]
     if len(read) != sides or None in read:
         return None
     return tuple(read)

@@ -61,6 +61,11 @@ def thing_worth(thing):
     return thing[3]
 
 
+# Slow and fast are alike, as a thing keeps its shape.
+def thing_speeds(thing):
+    return tuple([side[2] for side in thing_swath(thing)])
+
+
 def thing_box(thing, beat):
     return frame_at(thing_swath(thing), beat)
 

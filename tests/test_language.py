@@ -1,6 +1,6 @@
 """The form of the package: those of the rules L1 to L28 that can be read off the files.
 
-A rule that is not checked here (L11, L13, L19, L22, L26 and parts of others) holds all the same.
+A rule that is not checked here (L11 and parts of others) holds all the same.
 """
 
 import ast
@@ -35,6 +35,14 @@ NODES = set("""
     Eq NotEq Lt LtE Gt GtE Is IsNot In NotIn""".split())
 WALKED = ("zip", "enumerate", "reversed", "range", "items", "keys", "values")
 WALKERS = ("list", "tuple", "dict", "sorted", "sum", "any", "all", "enumerate", "zip", "min", "max", "join")
+CLASSES_ASKED_FOR = ("int", "str", "bool", "list", "tuple", "dict", "Either", "Both")
+KEYWORDS = {
+    "sorted": ("key", "reverse"), "min": ("key", "default"), "max": ("key", "default"), "sum": ("start",),
+    "enumerate": ("start",), "zip": ("strict",)}
+# L26: what Python's own values have; some of it is free for methods, or for values.
+PYTHONS_OWN = {name for kind in (str, int, list, tuple, dict, set, bytes) for name in dir(kind)}
+FREE_FOR_METHODS = METHODS | {"add", "discard"} | DUNDERS
+FREE_FOR_VALUES = {"count", "index", "title", "find", "get", "join", "lower", "upper", "split", "strip", "copy", "add"}
 TOP_NODES = (ast.ImportFrom, ast.FunctionDef, ast.ClassDef, ast.Assign)
 
 
@@ -171,6 +179,47 @@ def local_faults(tree):
             yield "L15", node.lineno
 
 
+def lambda_faults(tree):
+    seen = []
+    for node in ast.walk(tree):
+        if isinstance(node, ast.Lambda):
+            seen.append((node.lineno, [arg.arg for arg in node.args.args]))
+    for place, one in enumerate(seen):
+        if one in seen[:place]:
+            yield "L13", one[0]
+
+
+def error_faults(tree):
+    """The package takes no error but its own, so no rule for Python's errors is needed."""
+    own = {part.name for node in tree.body if isinstance(node, ast.ImportFrom) for part in node.names
+           if node.module == "driftwood.errors"}
+    for node in ast.walk(tree):
+        if isinstance(node, ast.ExceptHandler) and getattr(node.type, "id", None) not in own:
+            yield "L19", node.lineno
+        if isinstance(node, ast.Raise) and called_name(node.exc) not in own:
+            yield "L19", node.lineno
+
+
+def call_faults(node):
+    name, line = called_name(node), node.lineno
+    if name == "isinstance" and getattr(node.args[1], "id", None) not in CLASSES_ASKED_FOR:
+        yield "L22", line
+    for keyword in node.keywords:
+        if isinstance(node.func, ast.Name) and name in OWN_NAMES or isinstance(node.func, ast.Attribute):
+            if keyword.arg not in KEYWORDS.get(name, ()):
+                yield "L22", line
+
+
+def kept_name_faults(tree):
+    """Python's own functions are called, not kept or handed on; but as a key."""
+    called = {id(node.func) for node in ast.walk(tree) if isinstance(node, ast.Call)}
+    called |= {id(node.args[1]) for node in ast.walk(tree) if called_name(node) == "isinstance"}
+    called |= {id(base) for node in ast.walk(tree) if isinstance(node, ast.ClassDef) for base in node.bases}
+    for node in ast.walk(tree):
+        if isinstance(node, ast.Name) and node.id in OWN_NAMES and id(node) not in called:
+            yield "L22", node.lineno
+
+
 def faults_of(source, own_methods=()):
     """The rules that a file's text breaks, as a list of pairs (rule, line)."""
     found = list(text_faults(source))
@@ -178,6 +227,9 @@ def faults_of(source, own_methods=()):
     found += top_faults(tree)
     found += walk_faults(tree)
     found += local_faults(tree)
+    found += lambda_faults(tree)
+    found += error_faults(tree)
+    found += kept_name_faults(tree)
     for node in ast.walk(tree):
         line = getattr(node, "lineno", 0)
         if node.__class__.__name__ not in NODES:
@@ -186,6 +238,8 @@ def faults_of(source, own_methods=()):
             found += def_faults(node)
         if isinstance(node, ast.ClassDef):
             found += class_faults(node)
+        if isinstance(node, ast.Call):
+            found += call_faults(node)
         if isinstance(node, ast.Call) and isinstance(node.func, ast.Attribute):
             if node.func.attr not in METHODS and node.func.attr not in own_methods:
                 found.append(("L25", line))
@@ -250,6 +304,11 @@ class Form(unittest.TestCase):
         sources = package_sources()
         self.assertEqual(own_methods_of(sources) & own_values_of(sources), set())
 
+    def test_methods_and_values_have_free_names(self):
+        sources = package_sources()
+        self.assertEqual(own_methods_of(sources) & PYTHONS_OWN - FREE_FOR_METHODS, set())
+        self.assertEqual(own_values_of(sources) & PYTHONS_OWN - FREE_FOR_VALUES, set())
+
     def test_the_init_file_binds_no_name_of_a_file(self):
         bound = {getattr(node, "name", None) for node in ast.parse(package_sources()["__init__"]).body}
         self.assertEqual(bound & set(package_sources()), set())
@@ -274,6 +333,10 @@ class TheCheckItself(unittest.TestCase):
             ("L15", "from driftwood.boxes import box_of\n\n\ndef f(box_of):\n    return 1\n"),
             ("L15", "class A:\n    pass\n\n\ndef f():\n    A = 3\n"), ("L23", "def f(xs):\n    ys = zip(xs, xs)\n"),
             ("L24", "def f(xs):\n    return set(xs)\n"), ("L24", "x = {1, 2}\n"),
+            ("L13", "def f(g):\n    return g(lambda x: x, lambda x: -x)\n"),
+            ("L19", "def f(x):\n    try:\n        return int(x)\n    except ValueError:\n        return 0\n"),
+            ("L19", "def f():\n    raise ValueError('no')\n"), ("L22", "def f(x):\n    return isinstance(x, float)\n"),
+            ("L22", "def f(x):\n    return int(x, base=3)\n"), ("L22", "def f():\n    return len\n"),
             ("L20", "def f(a, b):\n    return a is b\n"), ("L21", "def f(a: int):\n    return a\n"),
             ("L25", "def f(xs):\n    xs.sort()\n"), ("L27", "def f(n):\n    return 2 ** n\n"), ("L27", "x = '%'\n"))
         for rule, source in bad:
